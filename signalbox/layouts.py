@@ -26,6 +26,10 @@ def piece_beyond(pieces, number, joint):
     return None
 
 
+def is_border(pieces, number, joint):
+    return piece_beyond(pieces, number, joint) is None
+
+
 # The order matters: of two routes that part here, the one by s comes first.
 def joints_out(piece, joint):
     if piece[0] == "plain":
@@ -33,6 +37,17 @@ def joints_out(piece, joint):
     if joint == piece[1]:
         return [piece[2], piece[3]]
     return [piece[1]]
+
+
+def is_points(piece):
+    return piece[0] == "points"
+
+
+# Points lie "straight" or "branch" for a step; a plain piece needs nothing, as only points are asked.
+def lie_for(piece, step):
+    if is_points(piece) and piece[3] in step[1:]:
+        return "branch"
+    return "straight"
 
 
 def check_yard(pieces, signals):

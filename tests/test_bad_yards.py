@@ -5,6 +5,7 @@ import unittest
 
 from signalbox.errors import BadYard
 from signalbox.routes import routes
+from signalbox.yards import Yard
 
 FIFTEEN_FIGURES = 999_999_999_999_999
 
@@ -19,10 +20,13 @@ class YardCase(unittest.TestCase):
         with self.subTest(pieces=pieces, signals=signals):
             with self.assertRaises(BadYard):
                 routes(pieces, signals)
+            with self.assertRaises(BadYard):
+                Yard(pieces, signals, 1)
 
     def good(self, pieces, signals):
         with self.subTest(pieces=pieces, signals=signals):
             self.assertIsInstance(routes(pieces, signals), list)
+            self.assertIsInstance(Yard(pieces, signals, 1), Yard)
 
 
 class TestPieceCounts(YardCase):

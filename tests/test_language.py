@@ -207,5 +207,48 @@ class TestLanguage(unittest.TestCase):
                 self.assertIn(node.func.attr, METHODS + own, where)
 
 
+    def test_l16_no_two_files_draw_from_one_another(self):
+        draws = {}
+        for name, tree in trees():
+            draws[name[:-3]] = [node.module.split(".")[1] for node in tree.body if isinstance(node, ast.ImportFrom)]
+        left = dict(draws)
+        while left:
+            free = [name for name in left if not any(other in left for other in draws[name])]
+            self.assertTrue(free, left)
+            for name in free:
+                left.pop(name)
+
+    def test_l16_names_come_from_the_file_that_defines_them(self):
+        defined = {
+            name[:-3]: [node.name for node in tree.body if isinstance(node, (ast.FunctionDef, ast.ClassDef))]
+            + [node.targets[0].id for node in tree.body if isinstance(node, ast.Assign)]
+            for name, tree in trees()
+        }
+        for where, node in nodes(ast.ImportFrom):
+            for alias in node.names:
+                self.assertIn(alias.name, defined[node.module.split(".")[1]], where)
+
+    def test_l18_l26_methods_and_values(self):
+        methods = [part.name for where, node in nodes(ast.ClassDef) for part in node.body if hasattr(part, "name")]
+        values = [node.attr for where, node in nodes(ast.Attribute) if isinstance(node.ctx, ast.Store)]
+        self.assertEqual(set(methods) & set(values), set())
+        taken = [name for kind in (str, int, list, dict, set, bytes) for name in dir(kind)]
+        for name in methods + values:
+            self.assertTrue(name in OWN_DUNDERS or name not in taken, name)
+
+    def test_l23_what_a_loop_walks_is_not_changed_in_it(self):
+        changes = ("append", "clear", "extend", "insert", "pop", "remove", "reverse", "setdefault", "update")
+        for where, loop in nodes(ast.For):
+            walked = ast.unparse(loop.iter)
+            for node in [part for row in loop.body for part in ast.walk(row)]:
+                if isinstance(node, ast.Call) and isinstance(node.func, ast.Attribute) and node.func.attr in changes:
+                    self.assertNotIn(walked, (ast.unparse(node.func.value), ast.unparse(node.func.value) + ".items()"))
+
+    def test_l28_init_gives_back_nothing(self):
+        for where, node in nodes(ast.FunctionDef):
+            if node.name == "__init__":
+                self.assertFalse([part for part in ast.walk(node) if isinstance(part, ast.Return)], where)
+
+
 if __name__ == "__main__":
     unittest.main()
